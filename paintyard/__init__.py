@@ -1,0 +1,1 @@
+"""Paintyard: a library of pictures, whole."""
