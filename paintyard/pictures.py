@@ -32,6 +32,12 @@ def is_mask(thing):
     return is_grid(thing) and all([is_part(cell) for cell in thing[2]])
 
 
+def check_as_great(one, other):
+    """Refuses pictures or masks of which one is wider or higher than the other."""
+    if one[0] != other[0] or one[1] != other[1]:
+        raise Uneven("the one is not as great as the other")
+
+
 def plain_one(width, height, colour):
     """A picture of one colour."""
     return (width, height, (colour,) * (width * height))

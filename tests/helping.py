@@ -1,7 +1,10 @@
-"""What several tests need: a second way to reckon, and pictures to try things on."""
+"""What several tests need: a second way to reckon, pictures to try things on, and how refusals are asked for."""
 
+import unittest
 from fractions import Fraction
 from math import floor
+
+from paintyard.errors import PaintError
 
 MODES = ("plain", "times", "screen", "dark", "light", "add", "less", "apart")
 
@@ -41,3 +44,42 @@ def deep_nest(depth):
     for k in range(depth):
         thing = (thing,) if k % 2 else [thing]
     return (thing,)
+
+
+def scattered(seed, many, below):
+    """So many numbers from 0 on, below the one told, that follow no plain rule but are always the same."""
+    told = []
+    for k in range(many):
+        seed = (seed * 1103515245 + 12345) % 2 ** 31
+        told.append((seed >> 12) % below)
+    return told
+
+
+def scattered_picture(seed, width, height, below=256):
+    """A picture of scattered parts below the one told."""
+    parts = scattered(seed, 4 * width * height, below)
+    return (width, height, tuple([tuple(parts[k:k + 4]) for k in range(0, len(parts), 4)]))
+
+
+def beside_edge(picture, x, y, edge):
+    """What stands at a place in or beside a picture, each edge told in its own words."""
+    width, height, cells = picture
+    inside = {(at % width, at // width): cell for at, cell in enumerate(cells)}
+    if edge == "near":
+        place = min(inside, key=lambda one: abs(one[0] - x) + abs(one[1] - y))
+        return inside[place]
+    if edge == "round":
+        found = [cell for (p, q), cell in inside.items() if (p - x) % width == 0 and (q - y) % height == 0]
+        return found[0]
+    return inside.get((x, y), CLEAR)
+
+
+class Refusing(unittest.TestCase):
+    def assert_refused(self, refusal, function, *told, **more):
+        """The very refusal is raised, is a PaintError and a ValueError, and changes nothing handed in."""
+        shown = repr((told, more))
+        with self.assertRaises(ValueError) as caught:
+            function(*told, **more)
+        self.assertIs(type(caught.exception), refusal)
+        self.assertIsInstance(caught.exception, PaintError)
+        self.assertEqual(repr((told, more)), shown)

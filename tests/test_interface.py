@@ -3,7 +3,7 @@
 import inspect
 import unittest
 
-from paintyard import colours, pictures
+from paintyard import colours, filters, palettes, paths, pictures
 
 LISTED = (
     (colours, "is_colour", 1), (colours, "shared", 3), (colours, "grey", 1), (colours, "distance", 2),
@@ -12,7 +12,13 @@ LISTED = (
     (pictures, "with_cell", 4), (pictures, "cut_out", 5), (pictures, "placed", 4), (pictures, "laid", 4),
     (pictures, "turned", 1), (pictures, "mirrored", 1), (pictures, "beside", 2), (pictures, "stacked", 2),
     (pictures, "grown", 2), (pictures, "shrunk", 2), (pictures, "sized", 3),
+    (palettes, "colours_of", 1), (palettes, "nearest", 2), (palettes, "in_few", 2), (palettes, "faults", 2),
+    (palettes, "palette_for", 2), (filters, "convolved", 4), (filters, "middled", 3), (filters, "curved", 2),
+    (filters, "evened", 1), (filters, "flooded", 4), (filters, "areas", 1), (paths, "is_path", 1),
+    (paths, "flat_rings", 1), (paths, "covered", 4), (paths, "stroked", 4), (paths, "shifted", 3),
+    (paths, "painted", 3),
 )
+BY_NAME = {"laid": {"mode": "plain", "share": 255}, "painted": {"mode": "plain"}}
 
 
 class InterfaceTest(unittest.TestCase):
@@ -24,11 +30,11 @@ class InterfaceTest(unittest.TestCase):
             self.assertEqual(len(by_place), many, name)
             self.assertTrue(all(one.default is one.empty for one in by_place), name)
 
-    def test_only_laid_has_arguments_behind_a_star(self):
+    def test_arguments_behind_a_star(self):
         for module, name, many in LISTED:
             told = inspect.signature(getattr(module, name)).parameters.values()
             by_name = {one.name: one.default for one in told if one.kind == one.KEYWORD_ONLY}
-            self.assertEqual(by_name, {"mode": "plain", "share": 255} if name == "laid" else {})
+            self.assertEqual(by_name, BY_NAME.get(name, {}), name)
 
 
 if __name__ == "__main__":

@@ -2,9 +2,9 @@
 
 import unittest
 
-from helping import BLUE, CLEAR, GREEN, MODES, RED, STRANGE, WHITE, deep_nest, numbered, rows_of
+from helping import BLUE, CLEAR, GREEN, MODES, RED, STRANGE, WHITE, Refusing, deep_nest, numbered, rows_of
 from paintyard.colours import blended, faded, mean_colour
-from paintyard.errors import BadMode, NoCell, PaintError, TooGreat, Uneven
+from paintyard.errors import BadMode, NoCell, TooGreat, Uneven
 from paintyard.pictures import (
     beside, cell_at, cut_out, grown, is_mask, is_picture, laid, mirrored, placed, plain_one, shrunk, sized, stacked,
     turned, with_cell)
@@ -13,17 +13,6 @@ FAR = 10 ** 20
 A, B, C, D, E, F = [(k, k, k, 255) for k in range(1, 7)]
 SIX = (3, 2, (A, B, C, D, E, F))
 MIXED = (3, 2, ((9, 8, 7, 0), (200, 10, 60, 255), (1, 2, 3, 100), (50, 60, 70, 1), CLEAR, (255, 255, 255, 254)))
-
-
-class Refusing(unittest.TestCase):
-    def assert_refused(self, refusal, function, *told, **more):
-        """The very refusal is raised, is a PaintError and a ValueError, and changes nothing handed in."""
-        shown = repr((told, more))
-        with self.assertRaises(ValueError) as caught:
-            function(*told, **more)
-        self.assertIs(type(caught.exception), refusal)
-        self.assertIsInstance(caught.exception, PaintError)
-        self.assertEqual(repr((told, more)), shown)
 
 
 class IsGridTest(unittest.TestCase):
