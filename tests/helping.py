@@ -74,6 +74,17 @@ def beside_edge(picture, x, y, edge):
     return inside.get((x, y), CLEAR)
 
 
+def spoilt_ones(thing, others):
+    """All things that come of a thing if one thing anywhere in it is put in another's place, or turned to a list."""
+    for other in others:
+        yield other
+    if isinstance(thing, tuple):
+        yield list(thing)
+        for at, inner in enumerate(thing):
+            for spoilt in spoilt_ones(inner, others):
+                yield thing[:at] + (spoilt,) + thing[at + 1:]
+
+
 class Refusing(unittest.TestCase):
     def assert_refused(self, refusal, function, *told, **more):
         """The very refusal is raised, is a PaintError and a ValueError, and changes nothing handed in."""

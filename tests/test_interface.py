@@ -3,7 +3,7 @@
 import inspect
 import unittest
 
-from paintyard import colours, filters, palettes, paths, pictures
+from paintyard import colours, files, filters, layers, letters, palettes, paths, pictures
 
 LISTED = (
     (colours, "is_colour", 1), (colours, "shared", 3), (colours, "grey", 1), (colours, "distance", 2),
@@ -16,9 +16,12 @@ LISTED = (
     (palettes, "palette_for", 2), (filters, "convolved", 4), (filters, "middled", 3), (filters, "curved", 2),
     (filters, "evened", 1), (filters, "flooded", 4), (filters, "areas", 1), (paths, "is_path", 1),
     (paths, "flat_rings", 1), (paths, "covered", 4), (paths, "stroked", 4), (paths, "shifted", 3),
-    (paths, "painted", 3),
+    (paths, "painted", 3), (letters, "is_font", 1), (letters, "measured", 2), (letters, "plain_lines", 3),
+    (letters, "fair_lines", 3), (letters, "drawn", 3), (layers, "is_layer", 1), (layers, "flattened", 3),
+    (layers, "hit_at", 3), (files, "in_runs", 1), (files, "unrun", 1), (files, "told_row", 2), (files, "file_of", 1),
+    (files, "opened", 1),
 )
-BY_NAME = {"laid": {"mode": "plain", "share": 255}, "painted": {"mode": "plain"}}
+BY_NAME = {"laid": {"mode": "plain", "share": 255}, "painted": {"mode": "plain"}, "drawn": {"way": "left"}}
 
 
 class InterfaceTest(unittest.TestCase):

@@ -4,7 +4,8 @@ import unittest
 from fractions import Fraction
 
 from helping import (
-    BLUE, CLEAR, GREEN, MODES, RED, STRANGE, Refusing, deep_nest, half_up, rows_of, scattered, scattered_picture)
+    BLUE, CLEAR, GREEN, MODES, RED, STRANGE, Refusing, deep_nest, half_up, rows_of, scattered, scattered_picture,
+    spoilt_ones)
 from paintyard.colours import blended, faded
 from paintyard.errors import BadMode, BadRule, TooGreat, Uneven
 from paintyard.paths import covered, flat_rings, is_path, painted, shifted, stroked
@@ -101,17 +102,6 @@ def scattered_path(seed, rings, many, low, high):
             pieces.append(("by", points[at], points[many + at]) if bent else ("to", points[at]))
         told.append(tuple(pieces))
     return tuple(told)
-
-
-def spoilt_ones(thing, others):
-    """All things that come of a thing if one thing anywhere in it is put in another's place, or turned to a list."""
-    for other in others:
-        yield other
-    if isinstance(thing, tuple):
-        yield list(thing)
-        for at, inner in enumerate(thing):
-            for spoilt in spoilt_ones(inner, others):
-                yield thing[:at] + (spoilt,) + thing[at + 1:]
 
 
 class IsPathTest(unittest.TestCase):
