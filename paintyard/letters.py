@@ -63,13 +63,16 @@ def words_of(row):
 def plain_ends(widths, between, width):
     """For each word with which a line may begin, the place behind the last word that still goes into that line."""
     ends = []
-    for start in range(len(widths)):
-        end = start + 1
-        used = widths[start]
+    end = 0
+    # A line begins without a blank ahead of its first word.
+    used = -between
+    for wide in widths:
         while end < len(widths) and used + between + widths[end] <= width:
             used += between + widths[end]
             end += 1
         ends.append(end)
+        # The next line begins one word later, and reaches no less far.
+        used -= between + wide
     return ends
 
 

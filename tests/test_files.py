@@ -2,21 +2,13 @@
 
 import unittest
 
-from helping import BLUE, CLEAR, GREEN, RED, STRANGE, Refusing, deep_nest, numbered, scattered, scattered_picture
+from helping import (
+    BLUE, CLEAR, GREEN, RED, STRANGE, Refusing, checked, deep_nest, numbered, one_by_one, scattered, scattered_picture)
 from paintyard.errors import BadFile
 from paintyard.files import file_of, in_runs, opened, told_row, unrun
 from paintyard.pictures import is_picture, plain_one
 
 UNLIKE = tuple([k % 256 for k in range(600)])
-
-
-def checked(body):
-    """The bytes with the two at the end that 8.3 tells of them."""
-    a, b = 1, 1
-    for byte in body:
-        a = (a + byte) % 251
-        b = (b + a) % 251
-    return tuple(body) + (a, b)
 
 
 def told_runs(told):
@@ -76,11 +68,6 @@ def file_by_places(picture, colours, places=None, runs=in_runs):
         places = tuple([colours.index(cell) for cell in picture[2]])
     parts = sum(colours, ())
     return checked((80, 89, picture[0], picture[1], 1, len(colours) - 1) + parts + tuple(runs(places)))
-
-
-def one_by_one(told):
-    """Blocks of one byte each."""
-    return sum([(0, byte) for byte in told], ())
 
 
 def cut_anyhow(told):

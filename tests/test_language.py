@@ -93,6 +93,39 @@ class LanguageTest(unittest.TestCase):
                 if isinstance(node.ctx, ast.Load) and node.id in dir(builtins):
                     self.assertIn(node.id, BUILTINS, name)
 
+    def test_values_at_module_level_are_plain(self):
+        for name, text in files():
+            defined = set()
+            for node in ast.parse(text).body:
+                if isinstance(node, ast.FunctionDef):
+                    defined.add(node.name)
+                elif isinstance(node, ast.Assign):
+                    inner = [one for one in ast.walk(node.value) if not isinstance(one, (ast.Constant, ast.Load))]
+                    kinds = (ast.Tuple, ast.List, ast.Dict, ast.Name)
+                    self.assertTrue(all(isinstance(one, kinds) for one in inner), name)
+                    self.assertLessEqual({one.id for one in inner if isinstance(one, ast.Name)}, defined, name)
+                else:
+                    self.assertIsInstance(node, (ast.Expr, ast.ImportFrom, ast.ClassDef), name)
+
+    def test_what_is_iterated_at_once_is_not_stored(self):
+        for name, text in files():
+            for node in nodes(text, ast.Assign, ast.Return):
+                if isinstance(node.value, ast.Call):
+                    called = node.value.func
+                    word = called.id if isinstance(called, ast.Name) else called.attr
+                    self.assertNotIn(word, ("zip", "enumerate", "reversed", "range", "items", "keys", "values"), name)
+
+    def test_methods_and_attributes(self):
+        methods, attributes = set(), set()
+        for name, text in files():
+            for node in nodes(text, ast.ClassDef):
+                methods |= {one.name for one in node.body if isinstance(one, ast.FunctionDef)}
+            attributes |= {node.attr for node in nodes(text, ast.Attribute) if isinstance(node.ctx, ast.Store)}
+        self.assertIn("add", methods)
+        self.assertEqual(methods & attributes, set())
+        dunders = {"__init__", "__len__", "__str__", "__eq__"}
+        self.assertEqual({name for name in methods if name.startswith("_")}, dunders)
+
     def test_nothing_imported_is_left_unused(self):
         for name, text in files():
             used = {node.id for node in nodes(text, ast.Name)}

@@ -295,6 +295,7 @@ class LinesTest(Refusing):
         row = " ".join(["ab"] * 3000)
         for lines in self.BOTH:
             self.assertEqual(lines(EVEN, row, 5), ("ab ab",) * 1500)
+            self.assertEqual(lines(EVEN, row, 9000), (row,))
 
 
 class DrawnTest(Refusing):
