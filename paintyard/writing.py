@@ -82,8 +82,9 @@ def read_picture(text):
 
 
 def read_names(text):
-    """The unlike names that stand with a plus between."""
-    names = tuple(text.split("+")) if text else ()
+    """The one or more unlike names that stand with a plus between."""
+    # An empty text tells one empty name, which no layer has, and so never a tuple of none.
+    names = tuple(text.split("+"))
     if len(set(names)) != len(names):
         raise NoText("a name stands there twice")
     return names

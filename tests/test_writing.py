@@ -103,11 +103,6 @@ class StudioTextTest(Refusing):
         lines = [" ".join(deed) for deed in deeds]
         self.assertEqual(studio_text(studio_of(ADD_A, *deeds)).split("\n")[2:-1], lines)
 
-    def test_a_lot_of_none(self):
-        studio = studio_of(("gather", (), "m"))
-        self.assertEqual(studio_text(studio), "studio 4 3\ngather  m\n")
-        self.assertEqual(read_studio(studio_text(studio)), studio)
-
     def test_nothing_is_changed(self):
         studio = studio_of(*EACH, undone=3)
         before = state_of(studio)
@@ -286,6 +281,23 @@ class NoTextTest(Refusing):
             self.assert_no_text(start + f"gather {names} m\n")
         self.assert_no_text(start + "gather a+b a\n", start + "gather a+b M\n", start + "gather a b m\n")
         self.assertEqual(read_studio(start + "gather b+a m\n").deeds()[-1], ("gather", (("b", "a"), "m")))
+
+    def test_lots_of_no_names(self):
+        self.assert_no_text("studio 4 3\ngather  m\n", "studio 4 3\n? gather  m\n")
+        start = studio_text(studio_of(ADD_A, ADD_B))
+        for line in ("gather  m\n", "gather m\n", "gather   m\n", "gather - m\n", "gather () m\n", "gather  a\n", "gather  \n"):
+            self.assert_no_text(start + line, start + "? " + line, start + line + "show a no\n", start + line + "? drop a\n")
+            self.assert_no_text(start + "show a no\n" + line, start + "? show a no\n? " + line + "? drop a\n")
+        for line in ("drop m", "open_up m", "melt m", "move m 5000 0", "fade m 1", "gather m n", "gather a+m n", "lift m 0"):
+            self.assert_no_text(start + f"gather  m\n{line}\n", start + f"gather  m\n? {line}\n")
+            self.assert_no_text(start + f"? gather  m\n? {line}\n")
+
+    def test_lots_of_one_or_more_names(self):
+        start = studio_text(studio_of(ADD_A, ADD_B))
+        for names, told in (("a", ("a",)), ("b", ("b",)), ("a+b", ("a", "b")), ("b+a", ("b", "a"))):
+            deed = ("gather", told, "m")
+            self.assertEqual(read_studio(start + f"gather {names} m\n"), studio_of(ADD_A, ADD_B, deed))
+            self.assertEqual(read_studio(start + f"? gather {names} m\n"), studio_of(ADD_A, ADD_B, deed, undone=1))
 
     def test_paths(self):
         start = studio_text(studio_of(ADD_A))
